@@ -1,0 +1,3 @@
+module horarium
+
+go 1.27
