@@ -504,25 +504,37 @@ var letterOf = map[string]string{
 
 var orders = regexp.MustCompile("^(|P|PW(RS*)*K*(EA*)*(CT*L*)*(O(YX*)*)*D*U*)$")
 
-var lineForms = lookOf()
+// tightForms are looked for in a grid that may be; looseForms in one that may not be, where each three words stand for a When.
+var tightForms, looseForms = lookOf(aWhen()), lookOf(aText() + aText() + aText())
 
-// lookOf makes of each of forms the one that is looked for.
-func lookOf() map[string]*regexp.Regexp {
+const aNumber = "(0|-?[1-9][0-9]*)"
+
+// aText looks for a blank and a word.
+func aText() string {
 	var codes []string
 	for b := range 256 {
 		if strings.IndexByte(selves, byte(b)) < 0 {
 			codes = append(codes, fmt.Sprintf("%%%02x", b))
 		}
 	}
-	number := "(0|-?[1-9][0-9]*)"
-	run := "(0|[1-9][0-9]?)(-[1-9][0-9]?)?"
+	return " (%|([a-zA-Z0-9._:/+,=-]|" + strings.Join(codes, "|") + ")+)"
+}
+
+// aWhen looks for a blank and the three words of a When, whose weeks and days may stand in any order.
+func aWhen() string {
+	const run = "(0|[1-9][0-9]?)(-[1-9][0-9]?)?"
+	return " " + run + "(," + run + ")* ([mtwhfsu]+) (0|[1-9][0-9]*)[+](0|[1-9][0-9]*)"
+}
+
+// lookOf makes of each of forms the one that is looked for, in which a When looks so.
+func lookOf(when string) map[string]*regexp.Regexp {
 	parts := map[string]string{
-		" s":  " (%|([a-zA-Z0-9._:/+,=-]|" + strings.Join(codes, "|") + ")+)",
-		" n":  " " + number,
-		" n*": "( " + number + ")*",
-		" w":  " " + run + "(," + run + ")* ([mtwhfsu]+) (0|[1-9][0-9]*)[+](0|[1-9][0-9]*)",
+		" s":  aText(),
+		" n":  " " + aNumber,
+		" n*": "( " + aNumber + ")*",
+		" w":  when,
 		" k":  " (" + strings.Join(kindNames(), "|") + ")",
-		" h":  " (hard|" + number + ")",
+		" h":  " (hard|" + aNumber + ")",
 	}
 	out := map[string]*regexp.Regexp{}
 	for first, form := range forms {
@@ -535,10 +547,14 @@ func lookOf() map[string]*regexp.Regexp {
 	return out
 }
 
-// isForm tells whether a line is of the form of those with its first word.
-func isForm(line string) bool {
+// isForm tells whether a line is of the form of those with its first word, in a grid that may be, or in one that may not.
+func isForm(line string, gridMay bool) bool {
 	l := strings.Split(line, " ")
-	look := lineForms[l[0]]
+	if !gridMay {
+		look := looseForms[l[0]]
+		return look != nil && look.MatchString(line)
+	}
+	look := tightForms[l[0]]
 	if look == nil || !look.MatchString(line) {
 		return false
 	}
@@ -546,6 +562,11 @@ func isForm(line string) bool {
 		return isWeeks(l[len(l)-3]) && isDays(l[len(l)-2])
 	}
 	return true
+}
+
+// mayBe tells whether a grid may be.
+func mayBe(g api.Grid) bool {
+	return g.Weeks >= 1 && g.Weeks <= 20 && g.Days >= 1 && g.Days <= 7 && g.Slots >= 1 && g.Slots <= 96
 }
 
 // isWeeks tells whether the runs rise, no two of them touching.
@@ -609,7 +630,7 @@ func (r *reading) numbers(l []string) []int {
 // when asks for nothing in a grid that may not be.
 func (r *reading) when(l []string) (w api.When) {
 	g := r.p.Grid
-	if g.Weeks < 1 || g.Weeks > 20 || g.Days < 1 || g.Days > 7 || g.Slots < 1 || g.Slots > 96 {
+	if !mayBe(g) {
 		return w
 	}
 	for run := range strings.SplitSeq(l[0], ",") {
@@ -703,11 +724,15 @@ func parseThat(text string) (api.Problem, int, api.Errno) {
 		return api.Problem{}, 0, api.ErrForm
 	}
 	lines, order := linesOf(text), ""
+	var head reading
 	for i, line := range lines {
 		first, _, _ := strings.Cut(line, " ")
 		order += letterOf[first]
-		if !isForm(line) || !orders.MatchString(order) {
+		if !isForm(line, mayBe(head.p.Grid)) || !orders.MatchString(order) {
 			return api.Problem{}, i, api.ErrForm
+		}
+		if i == 0 {
+			head.line(line)
 		}
 	}
 	var r reading

@@ -87,7 +87,7 @@ func TestParseForm(t *testing.T) {
 	for i, line := range linesOf(spring) {
 		first, _, _ := strings.Cut(line, " ")
 		for _, bad := range badForms[first] {
-			if isForm(bad) {
+			if isForm(bad, true) {
 				t.Errorf("%q is of a form", bad)
 			}
 			wantRefused(t, with(spring, i, i+1, bad), i, api.ErrForm)
@@ -115,14 +115,16 @@ func TestParseNoLine(t *testing.T) {
 
 // TestParseBytes: each byte in each place of each line of a text, in place of what is there, and ahead of it.
 func TestParseBytes(t *testing.T) {
-	s := text("problem p 1 5 10", "weigh 1 1 1 1", "room r 1 2", "room s 0 0", "shut 1 mt 1+2", "walk 0 1 3", "class c 1 2 -1", "time 5 1 m 0+1", "rule meet hard 0 0")
-	for i := range len(s) {
-		for b := range 256 {
-			x := string([]byte{byte(b)})
-			wantThat(t, s[:i]+x+s[i:])
-			wantThat(t, s[:i]+x+s[i+1:])
+	whole := text("problem p 1 5 10", "weigh 1 1 1 1", "room r 1 2", "room s 0 0", "shut 1 mt 1+2", "walk 0 1 3", "class c 1 2 -1", "time 5 1 m 0+1", "rule meet hard 0 0")
+	for _, s := range []string{whole, text("problem p 0 5 10", "weigh 1 1 1 1", "person x", "away 1 m 0+1", "class c 1 2 -1", "time 5 x y z")} {
+		for i := range len(s) {
+			for b := range 256 {
+				x := string([]byte{byte(b)})
+				wantThat(t, s[:i]+x+s[i:])
+				wantThat(t, s[:i]+x+s[i+1:])
+			}
+			wantThat(t, s[:i]+s[i+1:])
 		}
-		wantThat(t, s[:i]+s[i+1:])
 	}
 }
 
@@ -346,19 +348,95 @@ func TestParseWhen(t *testing.T) {
 	wantRefused(t, with(far, 4, 5, "away 1-20 mtwhfsu 0+97"), 4, api.ErrRange)
 }
 
-// TestParseGrid: in a grid that may not be a When is not out of its range, but of no form as anywhere.
+// noGrids are grids that may not be, and among them some whose numbers no int holds.
+var noGrids = []string{
+	"0 5 10", "21 5 10", "-1 5 10", "1 0 10", "1 8 10", "1 -1 10", "1 5 0", "1 5 97", "1 5 -1", "0 0 0", "-3 -5 -10", "21 8 97",
+	"9223372036854775807 5 10", "1 -9223372036854775808 10", "1 5 65536", "4294967297 5 10", "1 261 10", "257 5 10",
+}
+
+var farGrids = []string{"9223372036854775808 5 10", "1 -9223372036854775809 10", "1 5 18446744073709551626", "18446744073709551617 5 10", "99999999999999999999 8 97"}
+
+// anyWords are three words each that stand for a When in a grid that may not be alone.
+var anyWords = []string{
+	"x y z", "1 2 3", "1 m 0", "1,2 m 0+1", "2-1 m 0+1", "1-1 m 0+1", "01 m 0+1", "-1 m 0+1", "100 m 0+1", "1 tm 0+1", "1 mm 0+1", "1 x 0+1", "1 M 0+1", "1 m 00+1", "1 m 0+01",
+	"1 m -1+1", "1 m +1", "1 m 0+", "1 m 0-1", "1 m 0+1+1", "m 1 0+1", "0+1 m 1", "% % %", "% m 0+1", "1 % 0+1", "1 m %", "1%20m 0+1 %", "% 1%20m 0+1", "1%20m 0+1 x",
+	"a%20b%0a %00 %ff", "shut away time", "hard hard hard", "m m m",
+}
+
+// gridded are lines in a grid, of which three have a When: those with the numbers 3, 5 and 7.
+func gridded(grid string) string {
+	return text("problem p "+grid, "weigh 1 1 1 1", "room r 0 0", "shut 1 m 0+1", "person x", "away 1 m 0+1", "class c 0 0 -1", "time 0 1 m 0+1", "place 0 0")
+}
+
+// whenHeads are the beginnings of those lines, ahead of the When.
+var whenHeads = map[int]string{3: "shut ", 5: "away ", 7: "time 0 "}
+
+// TestParseGrid: in a grid that may not be a When is neither of no form nor out of its range, whatever its words are.
 func TestParseGrid(t *testing.T) {
-	for _, grid := range []string{"0 5 10", "21 5 10", "-1 5 10", "1 0 10", "1 8 10", "1 5 0", "1 5 97", "9223372036854775807 5 10", "1 -9223372036854775808 10", "1 5 65536"} {
-		s := text("problem p "+grid, "weigh 1 1 1 1", "room r 0 0", "shut 1 m 0+1", "person x", "away 20 u 95+9", "class c 0 0 -1", "time 0 99 m 99+99")
-		wantRefused(t, s, 8, api.ErrProblem)
-		wantRefused(t, with(s, 3, 4, "shut 1 m 0"), 3, api.ErrForm)
-		wantRefused(t, with(s, 5, 6, "away 1,2 m 0+1"), 5, api.ErrForm)
-		wantRefused(t, with(s, 7, 8, "time 0 1 x 0+1"), 7, api.ErrForm)
-		wantRefused(t, with(s, 7, 8, "time 9223372036854775808 1 m 0+1"), 7, api.ErrRange)
+	for _, grid := range noGrids {
+		s := gridded(grid)
+		wantRefused(t, s, 9, api.ErrProblem)
+		for at, head := range whenHeads {
+			for _, w := range append([]string{"20 u 95+9", "99 m 99+99", "0 m 0+0", "1-20 mtwhfsu 99999999999999999999+1"}, anyWords...) {
+				bad := with(s, at, at+1, head+w)
+				wantRefused(t, bad, 9, api.ErrProblem)
+				wantThat(t, bad)
+			}
+		}
+		all := with(with(with(s, 3, 4, "shut x y z"), 5, 6, "away 1 2 3"), 7, 8, "time 0 % % %", "time 0 % % %")
+		wantRefused(t, all, 10, api.ErrProblem)
+		// What is wrong beside goes ahead, as anywhere.
+		wantRefused(t, with(all, 7, 8, "time 9223372036854775808 x y z"), 7, api.ErrRange)
+		wantRefused(t, with(all, 2, 3, "room r 0 65536"), 2, api.ErrRange)
+		wantRefused(t, with(all, 9, 10, "place 0"), 9, api.ErrForm)
+		wantRefused(t, with(all, 9, 10, "time 0 x y z", "shut x y z"), 10, api.ErrForm)
 	}
-	s := text("problem p 9223372036854775808 5 10", "weigh 1 1 1 1", "person x", "away 20 u 95+9")
-	wantRefused(t, s, 0, api.ErrRange)
-	wantRefused(t, with(s, 3, 4, "away 20 u 95"), 3, api.ErrForm)
+}
+
+// TestParseGridForm: in a grid that may not be the lines that have a When have as many words as anywhere, and a cost that is a number's text.
+func TestParseGridForm(t *testing.T) {
+	for _, grid := range append(noGrids, farGrids...) {
+		s := gridded(grid)
+		for at, head := range whenHeads {
+			for _, w := range []string{"", "x", "x y", "1 m", "1%20m%200+1", "1%20m 0+1", "x y z x", "1 m 0+1 1", "1 m 0+1 %", "x y z ", " x y z", "x  y z", "x  y", "%zz y z", "x %2 z", "x y %2A", "x y z%", "x y \"z\"", "x\ty z"} {
+				wantRefused(t, with(s, at, at+1, head+w), at, api.ErrForm)
+			}
+			wantRefused(t, with(s, at, at+1, strings.TrimSuffix(head, " ")), at, api.ErrForm)
+		}
+		for _, cost := range []string{"x", "%", "00", "01", "-0", "+1", "-", "1e1", "hard", "9223372036854775808x", "a%20b"} {
+			wantRefused(t, with(s, 7, 8, "time "+cost+" 1 m 0+1"), 7, api.ErrForm)
+			wantRefused(t, with(s, 7, 8, "time "+cost+" x y z"), 7, api.ErrForm)
+		}
+	}
+}
+
+// TestParseGridFar: a grid with a number that no int holds may not be either; that is what is told, whatever words stand for a When.
+func TestParseGridFar(t *testing.T) {
+	for _, grid := range farGrids {
+		s := gridded(grid)
+		wantRefused(t, s, 0, api.ErrRange)
+		for at, head := range whenHeads {
+			for _, w := range append([]string{"20 u 95+9", "99 m 99+99"}, anyWords...) {
+				wantRefused(t, with(s, at, at+1, head+w), 0, api.ErrRange)
+			}
+		}
+	}
+}
+
+// TestParseGridEdge: the same words are of no form in the least grid and in the greatest one.
+func TestParseGridEdge(t *testing.T) {
+	for _, grid := range []string{"1 1 1", "20 7 96", "1 7 96", "20 1 96", "20 7 1"} {
+		s := gridded(grid)
+		if p, n, err := paper.Parse(s); n != 0 || err != api.OK || p.Rooms[0].Shut[0] != at(1, 1, 0, 1) {
+			t.Errorf("%s: %d, %d", grid, n, err)
+		}
+		for at, head := range whenHeads {
+			for _, w := range anyWords {
+				wantRefused(t, with(s, at, at+1, head+w), at, api.ErrForm)
+			}
+			wantRefused(t, with(s, at, at+1, head+"99 m 0+1"), at, api.ErrRange)
+		}
+	}
 }
 
 // TestParseTwoWrong: a line of no form goes ahead of what is out of its range, that ahead of what may not be; of two of one kind the first one.
@@ -575,6 +653,9 @@ func TestParseWords(t *testing.T) {
 			wantThat(t, with(spring, i, i+1, strings.Join(slices.Insert(slices.Clone(l), at, l[at]), " ")))
 			for _, w := range append([]string{"%", "0", "1", "2", "3", "-1", "96", "97", "65535", "65536", "1000", "1001", "10000", "10001", "hard", "meet", "mostload", "x", "m", "1-3", "0+1", "a%20b", "00", ""}, tooBig...) {
 				wantThat(t, with(spring, i, i+1, put(line, at, w)))
+				if i > 0 {
+					wantThat(t, with(with(spring, i, i+1, put(line, at, w)), 0, 1, "problem spring 3 5 97"))
+				}
 			}
 		}
 	}
@@ -620,7 +701,7 @@ func TestByChance(t *testing.T) {
 			t.Errorf("Print of what may not be is %q, %d", s, err)
 		}
 	}
-	texts := []string{spring, textThat(sized(size{3, 3, 4, 2, 3, 5}, 3)), textThat(sized(size{2, 1, 2, 1, 2, 2}, 1)), least}
+	texts := []string{spring, textThat(sized(size{3, 3, 4, 2, 3, 5}, 3)), textThat(sized(size{2, 1, 2, 1, 2, 2}, 1)), least, with(spring, 0, 1, "problem spring 3 8 10")}
 	for range 20000 {
 		lines := linesOf(texts[r.Intn(len(texts))])
 		for range 1 + r.Intn(3) {

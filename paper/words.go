@@ -69,22 +69,12 @@ func (w *words) gear() uint16 {
 
 // when: the time whose three words are the next ones.
 func (w *words) when(g api.Grid) api.When {
-	x, err := parseWhen(g, strings.Join(texts(w.text(), w.text(), w.text()), blank))
-	w.blame(err)
-	return x
-}
-
-// parseWhen is clock's Parse, but that of a grid that may not be it tells a text of no form alone.
-func parseWhen(g api.Grid, s string) (api.When, api.Errno) {
-	x, err := clock.Parse(g, s)
+	x, err := clock.Parse(g, strings.Join(texts(w.text(), w.text(), w.text()), blank))
+	// In a grid that may not be no time is of no form or out of its range: what is read may not be as a whole.
 	if err != api.ErrGrid {
-		return x, err
+		w.blame(err)
 	}
-	// Whether a text is a time's hangs on no grid, so any grid that may be tells it.
-	if _, err = clock.Parse(api.Grid{Weeks: 1, Days: 1, Slots: 1}, s); err == api.ErrForm {
-		return x, err
-	}
-	return x, api.OK
+	return x
 }
 
 func (w *words) kind() api.RuleKind {
